@@ -2,13 +2,11 @@ package node
 
 import (
 	"pleach/api"
+	"pleach/giveup"
 	"pleach/op"
 	"pleach/pack"
 	"pleach/sha"
 )
-
-// wrong is what reading is given up with.
-type wrong struct{ err error }
 
 // Decode tells the transaction whose block bytes are.
 func Decode(b []byte) (n api.Node, err error) {
@@ -17,29 +15,10 @@ func Decode(b []byte) (n api.Node, err error) {
 	}
 	defer func() {
 		if x := recover(); x != nil {
-			n, err = api.Node{}, caught(x)
+			n, err = api.Node{}, giveup.Caught(x)
 		}
 	}()
 	return readBlock(pack.NewIn(b)), nil
-}
-
-// caught tells with which error reading was given up; whatever else was thrown is a fault of the program, and goes on.
-func caught(x any) error {
-	if w, ok := x.(wrong); ok {
-		return w.err
-	}
-	panic(x)
-}
-
-// giveUp ends the reading of a block, from however deep inside.
-func giveUp(err error) { panic(wrong{err}) }
-
-// must tells what was read, or gives up.
-func must[T any](x T, err error) T {
-	if err != nil {
-		giveUp(err)
-	}
-	return x
 }
 
 // readBlock reads a block and nothing behind it.
@@ -48,39 +27,39 @@ func readBlock(r *pack.In) api.Node {
 	n := api.Node{Author: readAuthor(r)}
 	clockAt := r.At()
 	n.Clock = readClock(r)
-	count := int(must(r.Number(api.MaxParents)))
+	count := int(giveup.Must(r.Number(api.MaxParents)))
 	if !clockFits(n.Clock, count) {
-		giveUp(&api.Bad{Why: api.ErrClock, At: clockAt})
+		giveup.At(api.ErrClock, clockAt)
 	}
 	n.Parents = readParents(r, count)
-	n.Ops = must(op.Get(r))
+	n.Ops = giveup.Must(op.Get(r))
 	if err := r.End(); err != nil {
-		giveUp(err)
+		giveup.With(err)
 	}
 	return n
 }
 
 func readForm(r *pack.In) {
 	at := r.At()
-	if must(r.Byte()) != form {
-		giveUp(&api.Bad{Why: api.ErrForm, At: at})
+	if giveup.Must(r.Byte()) != form {
+		giveup.At(api.ErrForm, at)
 	}
 }
 
 func readAuthor(r *pack.In) int {
 	at := r.At()
-	author := int(must(r.Byte()))
+	author := int(giveup.Must(r.Byte()))
 	if !isAuthor(author) {
-		giveUp(&api.Bad{Why: api.ErrAuthor, At: at})
+		giveup.At(api.ErrAuthor, at)
 	}
 	return author
 }
 
 func readClock(r *pack.In) int {
 	at := r.At()
-	clock := int(must(r.Number(api.MaxNodes)))
+	clock := int(giveup.Must(r.Number(api.MaxNodes)))
 	if clock == 0 {
-		giveUp(&api.Bad{Why: api.ErrClock, At: at})
+		giveup.At(api.ErrClock, at)
 	}
 	return clock
 }
@@ -90,9 +69,9 @@ func readParents(r *pack.In, count int) []api.Hash {
 	l := []api.Hash{}
 	for i := range count {
 		at := r.At()
-		h := must(r.Hash())
+		h := giveup.Must(r.Hash())
 		if i > 0 && sha.Compare(l[i-1], h) >= 0 {
-			giveUp(&api.Bad{Why: api.ErrParents, At: at})
+			giveup.At(api.ErrParents, at)
 		}
 		l = append(l, h)
 	}
